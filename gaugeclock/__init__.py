@@ -1,0 +1,1 @@
+"""Tidehall: gauges. The program's one function is answers, in gaugeclock.gauges."""
