@@ -38,6 +38,23 @@ def row(t, step, k):
     return [5, t, step, k]
 
 
+def smooth(h, w):
+    """The call smooth; h is a list of heights, with None where there is none."""
+    return raw_smooth([(0, 0) if height is None else (1, height) for height in h], w)
+
+
+def raw_smooth(pairs, w):
+    """The call smooth with its heights as they are written."""
+    numbers = flat(pairs)
+    return [6, len(numbers)] + numbers + [len(w)] + list(w)
+
+
+def rows(heights):
+    """The answer of row or smooth with these heights, None where there is none."""
+    there = [height for height in heights if height is not None]
+    return [len(there), len(heights)] + flat([[0] if height is None else [1, height] for height in heights])
+
+
 def ask(*calls):
     """The answers to the calls, made in one list: a list for each call."""
     return split(answers(flat(calls)))

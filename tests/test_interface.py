@@ -6,22 +6,44 @@ import inspect
 import io
 import sys
 import unittest
+from time import perf_counter
 from unittest import mock
 
-from case_forms import SPIKES, TIME, ask, at, flat, gauge, row, time, zero
+from by_the_words import at_by_the_words, kept_by_the_words, smooth_by_the_words
+from case_forms import HEIGHT, SPIKES, TIME, ask, at, flat, gauge, raw_smooth, row, rows, smooth, split, time, zero
 from gaugeclock.gauges import answers
 
-CASE = flat([
-    SPIKES,
-    gauge(s=2, g=9, p=[(0, 0), (1, 5), (2, 0)], w=[(0, 1), (2, 4)], t=[(0, 1, 4), (2, 0, 0)]),
-    SPIKES,
-    time(1),
-    zero(1),
-    gauge(p=[(0, 0), (0, 0)]),
-    time(-1),
-    zero(TIME + 1),
-])
-TOLD = [1, -3, 1, 0, 3, 0, 1, 1, 4, 0, 2, 1, 2, 4, 0, 1, 1, 2, 3, -6, 0, 1, 4, 0, 0, 0, 1, 1, -1]
+# All seven kinds of call, with gauges taken and refused in between, and each call's answer.
+STEPS = [
+    (SPIKES, [-3]),
+    (smooth([1, 5, 9], [1, 1]), [1, 3, 0, 1, 5, 0]),
+    (gauge(s=2, g=9, p=[(0, 0), (1, 5), (2, 0)], w=[(0, 1), (2, 4)], t=[(0, 1, 4), (2, 0, 0)]), [0]),
+    (SPIKES, [0, 1, 1]),
+    (time(1), [0, 2, 1, 2]),
+    (zero(1), [0, 1, 1, 2]),
+    (at(2), [1, 2]),
+    (row(0, 1, 5), [4, 5, 0, 1, 3, 1, 2, 1, 1, 1, 0]),
+    (gauge(p=[(0, 0), (0, 0)]), [-6, 0, 1]),
+    (time(-1), [0, 0, 0, 1]),
+    (zero(TIME + 1), [-1]),
+    (at(-TIME - 1), [-1]),
+    (row(0, 0, 1), [-1]),
+    (raw_smooth([(2, 0)], [1]), [-6]),
+    (smooth([], []), [-1]),
+    (gauge(g=2 ** 32), [-1]),
+    (at(3), [1, 1]),
+    (row(5, 3, 2), [0, 2, 0, 0]),
+    (gauge(p=[(0, 7)]), [0]),
+    (at(3), [0]),
+    (at(0), [1, 7]),
+    (smooth([None, -4], [3]), [1, 2, 0, 1, -4]),
+    (SPIKES, [0, 0]),
+    (time(1), [0, 1, 0, 1]),
+    (zero(1), [0, 0, 0, 1]),
+    (row(-1, 1, 3), [1, 3, 0, 1, 7, 0]),
+]
+CASE = flat(call for call, answer in STEPS)
+TOLD = flat([len(answer)] + answer for call, answer in STEPS)
 
 
 def refuse(*args, **kwargs):
@@ -43,6 +65,12 @@ class OneList(unittest.TestCase):
         self.assertEqual(answers(gauge()), [1, 0])
         self.assertEqual(answers(SPIKES), [1, -3])
         self.assertEqual(answers(gauge(p=[(0, 2000000)])), [3, -6, 0, 0])
+        self.assertEqual(answers(smooth([3, None], [1])), [5, 1, 2, 1, 3, 0])
+        self.assertEqual(answers(raw_smooth([(0, 3)], [1])), [1, -6])
+
+    def test_told_number_by_number(self):
+        self.assertEqual(answers(gauge(p=[(0, 5)]) + at(0) + at(1) + row(0, 1, 2)),
+                         [1, 0, 2, 1, 5, 1, 0, 5, 1, 2, 1, 5, 0])
 
     def test_whole_numbers_in_a_list(self):
         told = answers(list(CASE))
@@ -67,6 +95,16 @@ class NoGauge(unittest.TestCase):
         calls = [time(TIME + 1), zero(-TIME - 1), at(TIME + 1), row(0, 0, 257)]
         self.assertEqual(ask(*calls), [[-3]] * len(calls))
 
+    def test_behind_smooth_and_refused_gauges(self):
+        calls = [smooth([1], [1]), gauge(s=2 ** 32), gauge(p=[(0, 0), (0, 0)])]
+        asked = [SPIKES, time(0), zero(0), at(0), row(0, 1, 1)]
+        self.assertEqual(ask(*calls, *asked)[3:], [[-3]] * len(asked))
+
+    def test_gone_with_an_empty_gauge(self):
+        asked = [SPIKES, time(0), zero(0), at(0), row(0, 1, 1)]
+        told = [[0], [0, 0], [0, 0, 0, 1], [0, 0, 0, 1], [0], [0, 1, 0]]
+        self.assertEqual(ask(gauge(), *asked), told)
+
 
 class NothingElse(unittest.TestCase):
     def test_handed_in_stays(self):
@@ -86,7 +124,7 @@ class NothingElse(unittest.TestCase):
 
     def test_nothing_kept(self):
         answers(gauge(s=1, p=[(0, 0)]))
-        self.assertEqual(answers(SPIKES + time(0) + zero(0)), [1, -3, 1, -3, 1, -3])
+        self.assertEqual(answers(SPIKES + time(0) + zero(0) + at(0) + row(0, 1, 1)), [1, -3] * 5)
 
     def test_prints_reads_and_imports_nothing(self):
         printed = io.StringIO()
@@ -98,14 +136,30 @@ class NothingElse(unittest.TestCase):
 
 
 class Long(unittest.TestCase):
+    # Many times what the longest lists take, so that a slow machine doesn't fail.
+    GOOD_TIME = 20
+
+    # As many points and checks as may be, and as wide: every clock and height comes out of long fractions.
+    WIDEST = {
+        "s": 2 * HEIGHT,
+        "g": 2 ** 32 - 1,
+        "p": [(k * 16000001 - 2 ** 31, (k * 777777) % (2 * HEIGHT) - HEIGHT) for k in range(256)],
+        "w": [(k * 130000003 - 2 ** 31, k * 130000091 - 2 ** 31 - 5) for k in range(32)],
+        "t": [(k * 129999987 - 2 ** 31, HEIGHT - k * 50021, k * 60013 - HEIGHT) for k in range(32)],
+    }
+
     def deep(self, calls):
-        """The answers with few calls within one another allowed."""
+        """The answers with few calls within one another allowed, in good time."""
+        self.assertLessEqual(len(calls), 26000)
         limit = sys.getrecursionlimit()
+        began = perf_counter()
         sys.setrecursionlimit(len(inspect.stack()) + 40)
         try:
-            return answers(calls)
+            told = answers(calls)
         finally:
             sys.setrecursionlimit(limit)
+        self.assertLess(perf_counter() - began, self.GOOD_TIME)
+        return told
 
     def test_most_calls(self):
         self.assertEqual(self.deep(gauge() + 299 * time(5)), [1, 0] + 299 * [4, 0, 5, 0, 1])
@@ -117,6 +171,36 @@ class Long(unittest.TestCase):
         times = 26000 // len(call)
         answer = [1, 0, 256, 0, 254] + list(range(1, 255)) + [4, 0, 91, 1, 2, 4, 0, 91, 1, 2]
         self.assertEqual(self.deep(call * times), answer * times)
+
+    def test_most_heights(self):
+        start, step = -2 ** 31, 16000007
+        parts = self.WIDEST
+        kept = kept_by_the_words(parts["s"], parts["p"], parts["w"], parts["t"])
+        singles = [at_by_the_words(kept, parts["g"], start + k * step) for k in range(256)]
+        answer = rows([None if single == [0] else single[1] for single in singles])
+        self.assertGreater(answer[0], 200)
+        told = split(self.deep(gauge(**parts) + 299 * row(start, step, 256)))
+        self.assertEqual(told, [[0]] + 299 * [answer])
+
+    def test_most_gauges(self):
+        call = gauge(**self.WIDEST) + at(5)
+        times = 26000 // len(call)
+        told = split(self.deep(call * times))
+        self.assertEqual(told, ask(gauge(**self.WIDEST), at(5)) * times)
+
+    def test_most_smoothed(self):
+        h = [(k * 7777777) % 8000001 - 4000000 for k in range(256)]
+        w = [65536 - k for k in range(32)]
+        call = smooth(h, w)
+        calls = 47 * call + 145 * time(1) + SPIKES
+        self.assertEqual(len(calls), 26000)
+        told = split(self.deep(calls))
+        self.assertEqual(told, 47 * [rows(smooth_by_the_words(h, w))] + 146 * [[-3]])
+
+    def test_most_refused(self):
+        call = gauge(p=[(0, 0)] * 500, w=[(0, 0)] * 50, t=[(0, 0, 0)] * 40) + raw_smooth([(2, 0)] * 500, [1] * 100)
+        times = 26000 // len(call)
+        self.assertEqual(self.deep(call * times), [1, -1, 1, -1] * times)
 
 
 if __name__ == "__main__":

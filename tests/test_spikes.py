@@ -3,6 +3,7 @@
 import random
 import unittest
 
+from by_the_words import spikes_by_the_words
 from case_forms import HEIGHT, SPIKES, ask, gauge
 
 
@@ -72,11 +73,7 @@ class Spikes(unittest.TestCase):
         for turn in range(200):
             s = chance.randrange(4)
             pens = [chance.randrange(-4, 5) for k in range(chance.randrange(12))]
-            expected = []
-            for k in range(1, len(pens) - 1):
-                sides = (pens[k - 1], pens[k + 1])
-                if all(pens[k] > side + s for side in sides) or all(pens[k] < side - s for side in sides):
-                    expected.append(k)
+            expected = spikes_by_the_words(s, pens)
             self.assertEqual(spikes(s, pens), [0, len(expected)] + expected)
 
 

@@ -4,6 +4,7 @@ import random
 import unittest
 from fractions import Fraction
 
+from by_the_words import rising, time_by_the_words, zero_by_the_words
 from case_forms import HEIGHT, TIME, ask, gauge, time, zero
 
 
@@ -22,37 +23,6 @@ def fraction(answer):
     if first != 0 or not 0 <= value < 1 or (value.numerator, value.denominator) != (over, bottom):
         raise ValueError(f"not in form: {answer}")
     return whole + value
-
-
-def line_value(checks, c):
-    for (c1, v1), (c2, v2) in zip(checks, checks[1:]):
-        if c1 <= c <= c2:
-            return v1 + Fraction((c - c1) * (v2 - v1), c2 - c1)
-    raise ValueError(c)
-
-
-def time_by_the_words(watches, c):
-    if not watches:
-        return Fraction(c)
-    for edge, beyond in ((watches[0], c <= watches[0][0]), (watches[-1], c >= watches[-1][0])):
-        if beyond:
-            return Fraction(c + edge[1] - edge[0])
-    return line_value(watches, c)
-
-
-def zero_by_the_words(staffs, c):
-    if not staffs:
-        return Fraction(0)
-    checks = [(clock, staff - pen) for clock, pen, staff in staffs]
-    if c <= checks[0][0]:
-        return Fraction(checks[0][1])
-    if c >= checks[-1][0]:
-        return Fraction(checks[-1][1])
-    return line_value(checks, c)
-
-
-def rising(chance, count, least, most):
-    return sorted(chance.sample(range(least, most), count))
 
 
 class Times(unittest.TestCase):
